@@ -14,8 +14,13 @@ BEGIN = 0
 COULD = 7
 
 # How many whole numbers each call has, by the call's number; of could without its row.
-# All calls stand here, since before a begin each of them is read and refused.
 ARGUMENT_COUNTS = (0, 2, 0, 2, 1, 1, 2, 1, 2, 2, 2, 2, 1, 0, 0, 3, 1, 1, 1, 0)
+
+# At which places among these numbers people stand, by the call's number.
+PEOPLE_PLACES = (
+    (), (0,), (), (0,), (0,), (0,), (0, 1), (0,), (0,), (0, 1),
+    (0, 1), (0, 1), (0,), (), (), (0, 2), (0,), (0,), (0,), (),
+)
 
 
 class Tree:
@@ -28,10 +33,6 @@ class Tree:
 
 def is_person(tree, number):
     return number < len(tree.uppers)
-
-
-def are_people(tree, one, another):
-    return is_person(tree, one) and is_person(tree, another)
 
 
 def is_length(number):
@@ -59,14 +60,27 @@ def parts_in_order(tree, person, teller):
     return sorted(pairs, key=lambda pair: (-pair[1], pair[0]))
 
 
-def part_need(tree, person, teller):
-    """How long it takes, once person knows, till all know whom one comes to by them from the teller."""
+def need_in_order(tree, person, pairs):
+    """How long it takes, once person knows, till the parts of these pairs know, called in the pairs' order."""
     needed = 0
     ended = 0
-    for pair in parts_in_order(tree, person, teller):
+    for pair in pairs:
         ended += call_length(tree, person, pair[0])
         needed = max(needed, ended + pair[1])
     return needed
+
+
+def part_need(tree, person, teller):
+    """How long it takes, once person knows, till all know whom one comes to by them from the teller."""
+    return need_in_order(tree, person, parts_in_order(tree, person, teller))
+
+
+def need_from(tree, start):
+    return part_need(tree, start, NOBODY)
+
+
+def needs_from_each(tree):
+    return [need_from(tree, start) for start in range(len(tree.uppers))]
 
 
 def calling_order(tree, person, teller):
@@ -100,6 +114,14 @@ def part_could(tree, person, teller, times):
     return all([part_could(tree, other, person, times) for other in told])
 
 
+def with_lengths(tree, lengths):
+    """Another tree of the same people, whose calls last so long; the tree itself stays as it is."""
+    another = Tree()
+    another.uppers = list(tree.uppers)
+    another.lengths = lengths
+    return another
+
+
 def begin(tree, arguments):
     tree.uppers = [NOBODY]
     tree.lengths = [0]
@@ -109,8 +131,6 @@ def begin(tree, arguments):
 def join(tree, arguments):
     person = arguments[0]
     length = arguments[1]
-    if not is_person(tree, person):
-        return [NONE_SUCH]
     if not is_length(length):
         return [NOT_SO]
     if len(tree.uppers) == MOST_PEOPLE:
@@ -132,7 +152,7 @@ def lasts(tree, arguments):
     person = arguments[0]
     length = arguments[1]
     # The first person was joined to nobody, so there is no call to be told of.
-    if person == 0 or not is_person(tree, person):
+    if person == 0:
         return [NONE_SUCH]
     if not is_length(length):
         return [NOT_SO]
@@ -142,24 +162,17 @@ def lasts(tree, arguments):
 
 
 def hours(tree, arguments):
-    person = arguments[0]
-    if not is_person(tree, person):
-        return [NONE_SUCH]
-    return [part_need(tree, person, NOBODY)]
+    return [need_from(tree, arguments[0])]
 
 
 def plan(tree, arguments):
     person = arguments[0]
-    if not is_person(tree, person):
-        return [NONE_SUCH]
-    return [part_need(tree, person, NOBODY)] + plan_times(tree, person)
+    return [need_from(tree, person)] + plan_times(tree, person)
 
 
 def order(tree, arguments):
     person = arguments[0]
     teller = arguments[1]
-    if not are_people(tree, person, teller):
-        return [NONE_SUCH]
     if person == teller:
         called = calling_order(tree, person, NOBODY)
     elif are_joined(tree, person, teller):
@@ -173,8 +186,6 @@ def could(tree, arguments):
     person = arguments[0]
     # Between the person and the times stands how many times there are.
     times = arguments[2:]
-    if not is_person(tree, person):
-        return [NONE_SUCH]
     if len(times) != len(tree.uppers):
         return [NOT_SO]
     if times[person] == 0 and part_could(tree, person, NOBODY, times):
@@ -185,30 +196,119 @@ def could(tree, arguments):
 def by(tree, arguments):
     person = arguments[0]
     hour = arguments[1]
-    if not is_person(tree, person):
-        return [NONE_SUCH]
     return [len([told for told in plan_times(tree, person) if told <= hour])]
 
 
 def part(tree, arguments):
     person = arguments[0]
     another = arguments[1]
-    if not are_people(tree, person, another):
-        return [NONE_SUCH]
     if not are_joined(tree, person, another):
         return [NOT_SO]
     return [part_need(tree, another, person), call_length(tree, person, another)]
 
 
+def call(tree, arguments):
+    person = arguments[0]
+    another = arguments[1]
+    if not are_joined(tree, person, another):
+        return [NOT_SO]
+    return [call_length(tree, person, another)]
+
+
+def way(tree, arguments):
+    one = arguments[0]
+    another = arguments[1]
+    lasted = 0
+    count = 0
+    while one != another:
+        # Everybody was joined to an earlier one, so from the later of two the way goes on by whom they were joined to.
+        later = max(one, another)
+        another = min(one, another)
+        one = tree.uppers[later]
+        lasted += tree.lengths[later]
+        count += 1
+    return [lasted, count]
+
+
+def bound(tree, arguments):
+    person = arguments[0]
+    greatest = 0
+    chosen = []
+    called = []
+    lasted = 0
+    # Needs fall along the order, so of the sets with the same last one that with all ahead of them is greatest.
+    # Other sets needn't be looked at; of alike ones among these the shortest is asked for, the first that's met.
+    for pair in parts_in_order(tree, person, NOBODY):
+        called.append(pair[0])
+        lasted += call_length(tree, person, pair[0])
+        if lasted + pair[1] > greatest:
+            greatest = lasted + pair[1]
+            chosen = list(called)
+    return [greatest] + chosen
+
+
+def best(tree, arguments):
+    needs = needs_from_each(tree)
+    least = min(needs)
+    return [least] + [start for start in range(len(needs)) if needs[start] == least]
+
+
+def all_from(tree, arguments):
+    needs = needs_from_each(tree)
+    return [len(needs)] + needs
+
+
+def quicker(tree, arguments):
+    person = arguments[0]
+    length = arguments[1]
+    start = arguments[2]
+    # As with lasts, the first person was joined to nobody.
+    if person == 0:
+        return [NONE_SUCH]
+    if not is_length(length):
+        return [NOT_SO]
+    lengths = list(tree.lengths)
+    lengths[person] = length
+    return [need_from(with_lengths(tree, lengths), start), need_from(tree, start)]
+
+
+def short(tree, arguments):
+    person = arguments[0]
+    pairs = parts_in_order(tree, person, NOBODY)
+    shortest_first = sorted(pairs, key=lambda pair: (call_length(tree, person, pair[0]), pair[0]))
+    return [need_in_order(tree, person, shortest_first), need_in_order(tree, person, pairs)]
+
+
+def ones(tree, arguments):
+    return [need_from(with_lengths(tree, [1] * len(tree.lengths)), arguments[0])]
+
+
+def near(tree, arguments):
+    others = others_joined(tree, arguments[0], NOBODY)
+    return [len(others)] + others
+
+
+def state(tree, arguments):
+    return [len(tree.uppers)] + tree.uppers[1:] + tree.lengths[1:]
+
+
 # By the call's number.
-HANDLERS = (begin, join, drop, lasts, hours, plan, order, could, by, part)
+HANDLERS = (
+    begin, join, drop, lasts, hours, plan, order, could, by, part,
+    call, way, bound, best, all_from, quicker, short, ones, near, state,
+)
+
+
+def are_all_people(tree, number, arguments):
+    return all([is_person(tree, arguments[place]) for place in PEOPLE_PLACES[number]])
 
 
 def answer_one(tree, number, arguments):
     if number != BEGIN and len(tree.uppers) == 0:
         return [NOT_BEGUN]
-    if number >= len(HANDLERS):
-        raise NotImplementedError("this call is not there yet")
+    # Asked here for all calls alike, since this refusal comes ahead of each call's own.
+    if not are_all_people(tree, number, arguments):
+        return [NONE_SUCH]
     return HANDLERS[number](tree, arguments)
 
 

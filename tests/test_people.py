@@ -2,8 +2,8 @@
 
 import unittest
 
-from lines import (BEGIN, DROP, GREATEST, ROW, SIX, STAR, after, by, could, grown, hours, join, lasts, look, order,
-                   part, plan, run)
+from lines import (ALL_FROM, BEGIN, BEST, DROP, GREATEST, ROW, SIX, STAR, STATE, after, bound, by, call, could, grown,
+                   hours, join, lasts, look, near, ones, order, part, plan, quicker, refused, run, short, way)
 
 
 class Begin(unittest.TestCase):
@@ -86,23 +86,19 @@ class Lasts(unittest.TestCase):
 
 
 class Refusals(unittest.TestCase):
-    def refused(self, built, call, number):
-        count = len(built)
-        seen = after(built, *look(count))
-        self.assertEqual(after(built, call, *look(count)), [[number]] + seen, call)
-
     def test_before_a_begin_every_call_answers_11(self):
         calls = [join(0, 1), DROP, lasts(1, 1), hours(0), plan(0), order(0, 0), could(0, [0]), by(0, 0), part(0, 1),
-                 [10, 0, 1], [11, 0, 0], [12, 0], [13], [14], [15, 1, 1, 0], [16, 0], [17, 0], [18, 0], [19]]
-        for call in calls:
-            self.assertEqual(run(call, BEGIN, plan(0), hours(1)), [[-11], [0], [0, 0], [-2]], call)
+                 call(0, 1), way(0, 0), bound(0), BEST, ALL_FROM, quicker(1, 1, 0), short(0), ones(0), near(0), STATE]
+        for made in calls:
+            self.assertEqual(run(made, BEGIN, plan(0), hours(1)), [[-11], [0], [0, 0], [-2]], made)
         self.assertEqual(run(*calls), [[-11]] * 19)
         self.assertEqual(run(*calls, BEGIN, *look(1)), [[-11]] * 19 + run(BEGIN, *look(1)))
 
     def test_before_a_begin_11_comes_ahead_of_all_others(self):
         calls = [join(1, 0), join(GREATEST, GREATEST), lasts(0, 0), lasts(0, 21), hours(12), plan(GREATEST),
                  order(3, 4), could(5, []), could(0, [1] * 14), by(1, GREATEST), part(0, 0), part(7, GREATEST),
-                 [10, GREATEST, 0], [11, 7, 7], [12, 9], [15, 0, 0, GREATEST], [16, 1], [17, 1], [18, GREATEST]]
+                 call(GREATEST, 0), call(0, 0), way(7, 7), bound(9), quicker(0, 0, GREATEST), quicker(1, 21, 0),
+                 short(1), ones(1), near(GREATEST)]
         self.assertEqual(run(*calls), [[-11]] * len(calls))
 
     def test_there_is_no_such_person(self):
@@ -110,66 +106,67 @@ class Refusals(unittest.TestCase):
             count = len(built)
             for none in (count, count + 1, 13, 255, 256, 65536, 2147483648, GREATEST):
                 times = [0] * count
-                for call in (join(none, 1), lasts(none, 1), hours(none), plan(none), by(none, 0), could(none, times),
+                for made in (join(none, 1), lasts(none, 1), hours(none), plan(none), by(none, 0), could(none, times),
                              order(none, 0), order(0, none), order(none, none), part(none, 0), part(0, none),
                              part(none, none)):
-                    self.refused(built, call, -2)
+                    refused(self, built, made, -2)
 
     def test_lasts_of_the_first(self):
         for built in (grown(), grown((0, 3)), SIX):
-            self.refused(built, lasts(0, 1), -2)
+            refused(self, built, lasts(0, 1), -2)
 
     def test_n_is_not_1_to_20(self):
         for n in (0, 21, 22, 256, 257, GREATEST):
-            self.refused(grown(), join(0, n), -22)
-            self.refused(SIX, join(4, n), -22)
-            self.refused(SIX, lasts(1, n), -22)
-            self.refused(SIX, lasts(5, n), -22)
-            self.refused(ROW, lasts(11, n), -22)
+            refused(self, grown(), join(0, n), -22)
+            refused(self, SIX, join(4, n), -22)
+            refused(self, SIX, lasts(1, n), -22)
+            refused(self, SIX, lasts(5, n), -22)
+            refused(self, ROW, lasts(11, n), -22)
 
     def test_only_one(self):
-        self.refused(grown(), DROP, -6)
+        refused(self, grown(), DROP, -6)
 
     def test_they_are_not_joined(self):
         joined = [(0, 1), (0, 2), (2, 3), (2, 4), (1, 5)]
         for p in range(6):
             for q in range(6):
                 if (p, q) not in joined and (q, p) not in joined:
-                    self.refused(SIX, part(p, q), -22)
+                    refused(self, SIX, part(p, q), -22)
                     if p != q:
-                        self.refused(SIX, order(p, q), -22)
-        self.refused(grown(), part(0, 0), -22)
+                        refused(self, SIX, order(p, q), -22)
+        refused(self, grown(), part(0, 0), -22)
 
     def test_times_that_are_not_one_for_each(self):
         for built in (grown(), grown((0, 3)), SIX, ROW):
             for many in range(15):
                 if many != len(built):
-                    self.refused(built, could(0, [0] * many), -22)
-                    self.refused(built, could(len(built) - 1, [GREATEST] * many), -22)
+                    refused(self, built, could(0, [0] * many), -22)
+                    refused(self, built, could(len(built) - 1, [GREATEST] * many), -22)
 
     def test_twelve_already(self):
         for p in (0, 5, 11):
             for n in (1, 20):
-                self.refused(ROW, join(p, n), -28)
-                self.refused(STAR, join(p, n), -28)
+                refused(self, ROW, join(p, n), -28)
+                refused(self, STAR, join(p, n), -28)
 
     def test_of_two_refusals_the_one_told_first(self):
         # -2 ahead of -22 and of -28, and -22 ahead of -28.
         for n in (0, 21, GREATEST):
-            self.refused(SIX, join(6, n), -2)
-            self.refused(SIX, lasts(6, n), -2)
-            self.refused(SIX, lasts(0, n), -2)
-            self.refused(ROW, join(12, n), -2)
-            self.refused(ROW, join(GREATEST, n), -2)
-            self.refused(ROW, join(0, n), -22)
-            self.refused(STAR, join(11, n), -22)
-        self.refused(ROW, join(12, 1), -2)
+            refused(self, SIX, join(6, n), -2)
+            refused(self, SIX, lasts(6, n), -2)
+            refused(self, SIX, lasts(0, n), -2)
+            refused(self, ROW, join(12, n), -2)
+            refused(self, ROW, join(GREATEST, n), -2)
+            refused(self, ROW, join(0, n), -22)
+            refused(self, STAR, join(11, n), -22)
+        refused(self, ROW, join(12, 1), -2)
         for times in ([], [0] * 5, [0] * 7, [0] * 14):
-            self.refused(SIX, could(6, times), -2)
-            self.refused(SIX, could(GREATEST, times), -2)
+            refused(self, SIX, could(6, times), -2)
+            refused(self, SIX, could(GREATEST, times), -2)
 
     def test_a_line_goes_on_after_each_refusal(self):
-        line = SIX + [join(9, 9), lasts(0, 3), could(0, [0, 1, 2]), could(7, [0] * 14), part(3, 4), order(0, 5), plan(0)]
+        line = SIX + [join(9, 9), lasts(0, 3), could(0, [0, 1, 2]), could(7, [0] * 14), part(3, 4), order(0, 5),
+                      plan(0)]
         self.assertEqual(run(*line)[6:], [[-2], [-2], [-22], [-2], [-22], [-22], [8, 0, 6, 1, 4, 8, 8]])
 
 

@@ -5,79 +5,7 @@ import random
 import unittest
 
 from lines import GREATEST, after, by, could, grown, hours, lasts, order, part, plan
-
-
-def shapes(count):
-    """Of each tree of so many people, to whom each but the first was joined."""
-    return itertools.product(*[range(i) for i in range(1, count)])
-
-
-def trees(count, lengths):
-    for uppers in shapes(count):
-        for chosen in itertools.product(lengths, repeat=count - 1):
-            yield list(zip(uppers, chosen))
-
-
-def some_tree(chance, count):
-    return [(chance.randrange(i), chance.randint(1, 20)) for i in range(1, count)]
-
-
-def lengths_of(joins):
-    """How long the call of each two lasts, either way round."""
-    found = {}
-    for i, (upper, length) in enumerate(joins, start=1):
-        found[upper, i] = length
-        found[i, upper] = length
-    return found
-
-
-def tellers(joins, start):
-    """Of each but start, which neighbour is nearer to start."""
-    lengths = lengths_of(joins)
-    found = {}
-    reached = [start]
-    for person in reached:
-        for one, other in lengths:
-            if one == person and other != start and other not in found:
-                found[other] = person
-                reached.append(other)
-    return found
-
-
-def ways_of_calling(joins, start):
-    """The row of times of each order of calling there is, everybody calling as soon as they can."""
-    lengths = lengths_of(joins)
-    nearer = tellers(joins, start)
-    people = range(len(joins) + 1)
-    told = [[other for other in people if nearer.get(other) == person] for person in people]
-    for orders in itertools.product(*[list(itertools.permutations(others)) for others in told]):
-        times = [0] * len(people)
-        reached = [start]
-        for person in reached:
-            ended = times[person]
-            for other in orders[person]:
-                ended += lengths[person, other]
-                times[other] = ended
-                reached.append(other)
-        yield times
-
-
-def could_be(joins, start, times):
-    """A row of times that could be so, word by word."""
-    lengths = lengths_of(joins)
-    nearer = tellers(joins, start)
-    if times[start] != 0:
-        return 0
-    for other, person in nearer.items():
-        if times[other] < times[person] + lengths[person, other]:
-            return 0
-    for one, another in itertools.combinations(nearer, 2):
-        if nearer[one] == nearer[another]:
-            begun = times[one] - lengths[nearer[one], one]
-            other_begun = times[another] - lengths[nearer[another], another]
-            if not (times[one] <= other_begun or times[another] <= begun):
-                return 0
-    return 1
+from words import could_be, lengths_of, need, shapes, some_tree, tellers, trees, ways_of_calling
 
 
 class EveryOrder(unittest.TestCase):
@@ -150,17 +78,6 @@ class EveryRow(unittest.TestCase):
 
 
 class Larger(unittest.TestCase):
-    def need(self, joins, person, teller):
-        """What a part needs, word by word; and those called, in order."""
-        lengths = lengths_of(joins)
-        parts = [(self.need(joins, other, person)[0], other)
-                 for one, other in lengths if one == person and other != teller]
-        called = sorted([other for needs, other in parts])
-        needs = {other: much for much, other in parts}
-        called.sort(key=lambda other: needs[other], reverse=True)
-        told = list(itertools.accumulate([lengths[person, other] for other in called]))
-        return max([time + needs[other] for time, other in zip(told, called)], default=0), called
-
     def test_up_to_twelve_people(self):
         chance = random.Random(2)
         for trial in range(60):
@@ -171,8 +88,8 @@ class Larger(unittest.TestCase):
             lengths = lengths_of(joins)
             built = grown(*joins)
             for p in range(count):
-                self.assertEqual(after(built, hours(p)), [[self.need(joins, p, None)[0]]], (joins, p))
-                called = self.need(joins, p, None)[1]
+                self.assertEqual(after(built, hours(p)), [[need(joins, p, None)[0]]], (joins, p))
+                called = need(joins, p, None)[1]
                 self.assertEqual(after(built, order(p, p)), [[len(called)] + called], (joins, p))
                 told = after(built, plan(p))[0]
                 self.assertEqual(told[0], max(told[1:]))
@@ -180,9 +97,9 @@ class Larger(unittest.TestCase):
                 for h in (0, told[0] // 2, told[0] - 1, told[0], GREATEST):
                     self.assertEqual(after(built, by(p, h)), [[len([time for time in told[1:] if time <= h])]])
             for one, other in lengths:
-                much = self.need(joins, other, one)[0]
+                much = need(joins, other, one)[0]
                 self.assertEqual(after(built, part(one, other)), [[much, lengths[one, other]]], (joins, one, other))
-                called = self.need(joins, one, other)[1]
+                called = need(joins, one, other)[1]
                 self.assertEqual(after(built, order(one, other)), [[len(called)] + called], (joins, one, other))
 
 
